@@ -1,0 +1,1 @@
+"""Beatlanes: pieces of sound on lanes laid by beats, reckoned in exact fractions."""

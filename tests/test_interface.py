@@ -1,0 +1,33 @@
+import importlib
+import inspect
+import unittest
+
+LISTED = {
+    "fracs": {
+        "is_fraction": 1, "fraction": 2, "plus": 2, "minus": 2, "times": 2, "over": 2, "is_less": 2, "floor_of": 1,
+    },
+    "tempo": {"is_tempo": 1, "length_of": 2, "moment_of": 2, "place_of": 2},
+    "sheets": {"is_take": 1, "is_shape": 1, "is_piece": 1, "fault_of": 1},
+}
+
+
+class Interface(unittest.TestCase):
+    def test_each_function_is_defined_in_its_file(self):
+        for file, functions in LISTED.items():
+            module = importlib.import_module("beatlanes." + file)
+            for name in functions:
+                found = getattr(module, name)
+                self.assertTrue(inspect.isfunction(found))
+                self.assertEqual((found.__module__, found.__name__), ("beatlanes." + file, name))
+
+    def test_each_function_takes_so_many_arguments_by_their_places(self):
+        for file, functions in LISTED.items():
+            module = importlib.import_module("beatlanes." + file)
+            for name, many in functions.items():
+                inspect.signature(getattr(module, name)).bind(*range(many))
+                with self.assertRaises(TypeError):
+                    inspect.signature(getattr(module, name)).bind(*range(many + 1))
+
+
+if __name__ == "__main__":
+    unittest.main()
