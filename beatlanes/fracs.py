@@ -88,6 +88,46 @@ def floor_of(one):
     return one[0] // one[1]
 
 
+def least(things):
+    """The least of some fractions, at least one."""
+    found = things[0]
+    for one in things:
+        if is_less(one, found):
+            found = one
+    return found
+
+
+def greatest(things):
+    """The greatest of some fractions, at least one."""
+    found = things[0]
+    for one in things:
+        if is_less(found, one):
+            found = one
+    return found
+
+
+def rising(things):
+    """Those fractions from the least to the greatest, each once."""
+    if len(things) < 2:
+        return list(things)
+    half = len(things) // 2
+    return _merged(rising(things[:half]), rising(things[half:]))
+
+
+def _merged(one, other):
+    """Two rising lists as one."""
+    merged = []
+    j = 0
+    for thing in one:
+        while j < len(other) and is_less(other[j], thing):
+            merged.append(other[j])
+            j += 1
+        if j < len(other) and other[j] == thing:
+            j += 1
+        merged.append(thing)
+    return merged + other[j:]
+
+
 def _in_lowest_terms(top, bottom):
     shared = gcd(top, bottom)
     # gcd has no sign, so that of the bottom is taken along: the bottom told is above 0.

@@ -45,35 +45,69 @@ def length_of(tempo, step):
 def moment_of(tempo, place):
     """The moment of the place: how long all lasts that lies ahead of it."""
     _refuse_no_tempo(tempo)
-    if not is_from_nought(place):
-        raise NoPlace("a place is a fraction from 0 on")
-    stretches, rest = tempo
-    begin = NOUGHT
-    left = place
-    for stretch in stretches:
-        many = (stretch[0], 1)
-        if is_less(left, many):
-            return plus(begin, _moment_within(stretch, left))
-        begin = plus(begin, _length_of_steps(stretch, stretch[0]))
-        left = minus(left, many)
-    return plus(begin, times(left, rest))
+    refuse_no_place(place)
+    return Clock(tempo).moment_at(place)
 
 
 def place_of(tempo, moment):
     """The place of which it is the moment."""
     _refuse_no_tempo(tempo)
-    if not is_from_nought(moment):
+    refuse_no_moment(moment)
+    return Clock(tempo).place_at(moment)
+
+
+class Clock:
+    """A tempo of which many places and moments may be asked, without a look at all of it for each."""
+
+    def __init__(self, tempo):
+        stretches, self.rest = tempo
+        # Of each stretch: the step and the moment at which it begins, the moment at which it ends, itself.
+        self.parts = []
+        self.step = 0
+        self.moment = NOUGHT
+        for stretch in stretches:
+            end = plus(self.moment, _length_of_steps(stretch, stretch[0]))
+            self.parts.append((self.step, self.moment, end, stretch))
+            self.step += stretch[0]
+            self.moment = end
+
+    def moment_at(self, place):
+        """The moment of a place."""
+        for step, begin, _, stretch in self.parts:
+            if is_less(place, (step + stretch[0], 1)):
+                return plus(begin, _moment_within(stretch, minus(place, (step, 1))))
+        behind = minus(place, (self.step, 1))
+        return plus(self.moment, times(behind, self.rest))
+
+    def place_at(self, moment):
+        """The place of a moment."""
+        for step, begin, end, stretch in self.parts:
+            if is_less(moment, end):
+                return plus((step, 1), _place_within(stretch, minus(moment, begin)))
+        behind = minus(moment, self.moment)
+        return plus((self.step, 1), over(behind, self.rest))
+
+
+def refuse_no_place(thing):
+    """NoPlace of what is no place."""
+    if not is_from_nought(thing):
+        raise NoPlace("a place is a fraction from 0 on")
+
+
+def refuse_no_moment(thing):
+    """NoMoment of what is no moment."""
+    if not is_from_nought(thing):
         raise NoMoment("a moment is a fraction from 0 on")
-    stretches, rest = tempo
-    ahead = 0
-    left = moment
-    for stretch in stretches:
-        whole = _length_of_steps(stretch, stretch[0])
-        if is_less(left, whole):
-            return plus((ahead, 1), _place_within(stretch, left))
-        ahead += stretch[0]
-        left = minus(left, whole)
-    return plus((ahead, 1), over(left, rest))
+
+
+def goes_on(stretch, behind):
+    """Whether both lie on one straight line of lengths."""
+    return stretch[2] == behind[1] and _rise_of(stretch) == _rise_of(behind)
+
+
+def length_from(stretch, step):
+    """The length from which a step of the stretch goes on evenly; its last one goes up to that of the count."""
+    return plus(stretch[1], times(_rise_of(stretch), (step, 1)))
 
 
 def _refuse_no_tempo(thing):
@@ -83,14 +117,9 @@ def _refuse_no_tempo(thing):
 
 def _is_plain(stretches, rest):
     for k in range(1, len(stretches)):
-        if _goes_on(stretches[k - 1], stretches[k]):
+        if goes_on(stretches[k - 1], stretches[k]):
             return False
     return not stretches or stretches[-1][1:] != (rest, rest)
-
-
-def _goes_on(stretch, behind):
-    """Whether both lie on one straight line of lengths."""
-    return stretch[2] == behind[1] and _rise_of(stretch) == _rise_of(behind)
 
 
 def _rise_of(stretch):

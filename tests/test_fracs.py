@@ -2,7 +2,7 @@ import unittest
 from fractions import Fraction
 
 from beatlanes.errors import LaneError, NoFraction
-from beatlanes.fracs import floor_of, fraction, is_fraction, is_less, minus, over, plus, times
+from beatlanes.fracs import floor_of, fraction, greatest, is_fraction, is_less, least, minus, over, plus, rising, times
 from tests.things import ANYTHING, is_plain_fraction, told, unchanged, worth
 
 SIXTY = 10 ** 59 + 7
@@ -210,6 +210,19 @@ class Floor(unittest.TestCase):
         self.assertEqual(floor_of((-1, 2)), -1)
         self.assertEqual(floor_of((1, 2)), 0)
         self.assertIs(type(floor_of((7, 2))), int)
+
+
+class Rows(unittest.TestCase):
+    def test_least_and_greatest(self):
+        for things in [FRACTIONS, FRACTIONS[::-1], FRACTIONS[5:], [(3, 1)], [(1, 2), (1, 2)], [(-1, 2), (-1, 3)]]:
+            self.assertEqual(least(things), told(min(worth(one) for one in things)))
+            self.assertEqual(greatest(things), told(max(worth(one) for one in things)))
+
+    def test_rising(self):
+        for things in [[], [(1, 1)], [(2, 1), (1, 1)], FRACTIONS, FRACTIONS[::-1], FRACTIONS[3:] + FRACTIONS[:9],
+                       [told(Fraction(k * k % 31, k % 7 + 1)) for k in range(100)]]:
+            self.assertEqual(rising(things), [told(one) for one in sorted({worth(one) for one in things})])
+            self.assertTrue(unchanged(rising, things))
 
 
 if __name__ == "__main__":

@@ -8,6 +8,12 @@ LISTED = {
     },
     "tempo": {"is_tempo": 1, "length_of": 2, "moment_of": 2, "place_of": 2},
     "sheets": {"is_take": 1, "is_shape": 1, "is_piece": 1, "fault_of": 1},
+    "heard": {
+        "heard": 2, "content_at": 3, "level_at": 3, "sound_at": 3, "lane_at": 3, "heard_at": 2, "runs_of": 2, "played": 4,
+    },
+    "grains": {"grains_of": 2, "loudest": 2, "loudest_lane": 2},
+    "rows": {"rows_heard": 3, "unlike": 4},
+    "laying": {"lay": 3, "lift": 2, "move": 3, "shift": 3, "raise_to": 3, "trim": 4},
 }
 
 

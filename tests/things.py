@@ -109,3 +109,49 @@ def unchanged(ask, *things):
         except ValueError as refusal:
             answers.append(refusal.__class__)
     return things == copies and repr(things) == repr(copies) and answers[0] == answers[1]
+
+
+def refusal_of(ask, *things):
+    """The class of what asking is refused with, None where it is not refused."""
+    try:
+        ask(*things)
+    except ValueError as refusal:
+        return refusal.__class__
+    return None
+
+
+def is_plainly_told(thing):
+    """Whether it is made of plain tuples, lists, whole numbers, texts and None alone."""
+    if type(thing) in (tuple, list):
+        return all([is_plainly_told(part) for part in thing])
+    return thing is None or type(thing) in (int, str)
+
+
+def all_but(is_right, more=()):
+    """Those of ANYTHING, and of some more things, that are not right."""
+    return [thing for thing in ANYTHING + list(more) if not is_right(thing)]
+
+
+NO_FRACTIONS = all_but(is_plain_fraction)
+NOT_FROM_NOUGHT = NO_FRACTIONS + [(-1, 1), (-1, 999999999999), (-10 ** 60, 7)]
+NOT_ABOVE_NOUGHT = NOT_FROM_NOUGHT + [(0, 1)]
+NO_WHOLES = all_but(lambda thing: type(thing) is int)
+
+
+def assert_refused(case, refusal, ask, *things):
+    """That asking is refused with just this class, and leaves all that is handed in as it was."""
+    case.assertIs(refusal_of(ask, *things), refusal, things)
+    case.assertTrue(unchanged(ask, *things))
+
+
+def assert_first_goes_first(case, ask, good, dues):
+    """That of several refusals that are due the first goes: dues are (refusal, {number of argument: thing})."""
+    case.assertIsNone(refusal_of(ask, *good))
+    for j, (refusal, things) in enumerate(dues):
+        for _, others in dues[j:]:
+            asked = [things.get(k, others.get(k, thing)) for k, thing in enumerate(good)]
+            case.assertIs(refusal_of(ask, *asked), refusal, asked)
+        worst = list(good)
+        for _, others in reversed(dues[j:]):
+            worst = [others.get(k, thing) for k, thing in enumerate(worst)]
+        case.assertIs(refusal_of(ask, *worst), refusal, worst)
