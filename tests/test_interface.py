@@ -13,6 +13,10 @@ LISTED = {
     },
     "grains": {"grains_of": 2, "loudest": 2, "loudest_lane": 2},
     "rows": {"rows_heard": 3, "unlike": 4},
+    "cutting": {"cut": 4, "glue": 3},
+    "shaping": {"stretch_to": 3, "turn_over": 2, "fade": 4, "louder": 3},
+    "lanes": {"new_lane": 2, "drop_lane": 2, "gain_to": 3, "hush": 3, "lane_to": 3, "new_take": 2, "drop_take": 2},
+    "paces": {"pace": 5, "rest_from": 3},
     "laying": {"lay": 3, "lift": 2, "move": 3, "shift": 3, "raise_to": 3, "trim": 4},
 }
 
