@@ -1,4 +1,7 @@
-"""Cutting a piece in two, and gluing two to one."""
+"""Cutting a piece in two, and gluing two to one.
+
+Each deed is there twice: by its own name, for whatever is handed in as a sheet, and below for what surely is one.
+"""
 
 from beatlanes.errors import NoGlue, NoPiece, NoStep, Taken
 from beatlanes.fracs import is_whole, is_whole_within, plus
@@ -11,20 +14,29 @@ from beatlanes.tempo import Clock
 def cut(sheet, n, step, new):
     """A piece parted at a step within it; the second part has a new number and stands right above the first."""
     refuse_no_sheet(sheet)
-    spot = piece_spot(sheet, n)
-    piece = piece_at(sheet, spot)
-    if not is_whole(step) or not piece[2] < step < end_of(piece):
-        raise NoStep("a piece is cut at a step within it")
-    if not is_whole_within(new, 1, MOST_NUMBER):
-        raise NoPiece("the new number is no number of a piece")
-    if new in numbers_of(sheet):
-        raise Taken("a piece has the new number")
-    return fitting(with_instead(sheet, spot, parted(Clock(sheet[0]), piece, step, new)))
+    return cut_in_two(sheet, n, step, new)
 
 
 def glue(sheet, n, second):
     """A piece joined with the one right above it that goes on just as it would."""
     refuse_no_sheet(sheet)
+    return glued(sheet, n, second)
+
+
+def cut_in_two(sheet, n, step, new):
+    """What cut tells of a sheet."""
+    spot = piece_spot(sheet, n)
+    piece = piece_at(sheet, spot)
+    if not is_whole(step) or not piece[2] < step < end_of(piece):
+        raise NoStep("a piece is cut at a step within it")
+    refuse_no_number(new)
+    if new in numbers_of(sheet):
+        raise Taken("a piece has the new number")
+    return fitting(with_instead(sheet, spot, parted(Clock(sheet[0]), piece, step, new)))
+
+
+def glued(sheet, n, second):
+    """What glue tells of a sheet."""
     k, j = piece_spot(sheet, n)
     other_k, other_j = piece_spot(sheet, second)
     pieces = sheet[2][k][3]
@@ -32,6 +44,12 @@ def glue(sheet, n, second):
         raise NoGlue("the second piece doesn't go on where the first one ends")
     joined = _joined(pieces[j], pieces[j + 1])
     return fitting(with_pieces(sheet, k, pieces[:j] + (joined,) + pieces[j + 2:]))
+
+
+def refuse_no_number(new):
+    """NoPiece of what is no number that a piece may have."""
+    if not is_whole_within(new, 1, MOST_NUMBER):
+        raise NoPiece("the new number is no number of a piece")
 
 
 def parted(clock, piece, step, new):

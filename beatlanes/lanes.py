@@ -1,4 +1,7 @@
-"""Lanes and takes put into a sheet, changed and taken out."""
+"""Lanes and takes put into a sheet, changed and taken out.
+
+Each deed is there twice: by its own name, for whatever is handed in as a sheet, and below for what surely is one.
+"""
 
 from beatlanes.errors import NoLevel, NoName, NoRank, NoTake, Taken, TooMany, Used
 from beatlanes.fracs import is_from_nought, is_whole_within
@@ -9,6 +12,47 @@ from beatlanes.spots import at_rank, lane_spot, pieces_of, refuse_no_sheet, with
 def new_lane(sheet, name):
     """A lane without pieces, gain 1, not silent, put behind the others."""
     refuse_no_sheet(sheet)
+    return with_new_lane(sheet, name)
+
+
+def drop_lane(sheet, name):
+    """A lane without pieces taken out."""
+    refuse_no_sheet(sheet)
+    return without_lane(sheet, name)
+
+
+def gain_to(sheet, name, gain):
+    """A lane given another gain."""
+    refuse_no_sheet(sheet)
+    return with_gain(sheet, name, gain)
+
+
+def hush(sheet, name, silent):
+    """A lane made silent, 1, or not, 0."""
+    refuse_no_sheet(sheet)
+    return with_silent(sheet, name, silent)
+
+
+def lane_to(sheet, name, rank):
+    """A lane given another rank among the lanes."""
+    refuse_no_sheet(sheet)
+    return with_lane_at(sheet, name, rank)
+
+
+def new_take(sheet, take):
+    """A take put behind the others."""
+    refuse_no_sheet(sheet)
+    return with_new_take(sheet, take)
+
+
+def drop_take(sheet, name):
+    """A take taken out of which no piece is."""
+    refuse_no_sheet(sheet)
+    return without_take(sheet, name)
+
+
+def with_new_lane(sheet, name):
+    """What new_lane tells of a sheet."""
     tempo, takes, lanes = sheet
     if not is_name(name):
         raise NoName("it is no name")
@@ -19,9 +63,8 @@ def new_lane(sheet, name):
     return (tempo, takes, lanes + ((name, (1, 1), 0, ()),))
 
 
-def drop_lane(sheet, name):
-    """A lane without pieces taken out."""
-    refuse_no_sheet(sheet)
+def without_lane(sheet, name):
+    """What drop_lane tells of a sheet."""
     k = lane_spot(sheet, name)
     tempo, takes, lanes = sheet
     if lanes[k][3]:
@@ -29,9 +72,8 @@ def drop_lane(sheet, name):
     return (tempo, takes, lanes[:k] + lanes[k + 1:])
 
 
-def gain_to(sheet, name, gain):
-    """A lane given another gain."""
-    refuse_no_sheet(sheet)
+def with_gain(sheet, name, gain):
+    """What gain_to tells of a sheet."""
     k = lane_spot(sheet, name)
     if not is_from_nought(gain):
         raise NoLevel("a gain is a fraction from 0 on")
@@ -39,9 +81,8 @@ def gain_to(sheet, name, gain):
     return with_lane(sheet, k, (lane[0], gain) + lane[2:])
 
 
-def hush(sheet, name, silent):
-    """A lane made silent, 1, or not, 0."""
-    refuse_no_sheet(sheet)
+def with_silent(sheet, name, silent):
+    """What hush tells of a sheet."""
     k = lane_spot(sheet, name)
     if not is_whole_within(silent, 0, 1):
         raise NoLevel("a lane is silent by 0 or 1")
@@ -49,9 +90,8 @@ def hush(sheet, name, silent):
     return with_lane(sheet, k, lane[:2] + (silent, lane[3]))
 
 
-def lane_to(sheet, name, rank):
-    """A lane given another rank among the lanes."""
-    refuse_no_sheet(sheet)
+def with_lane_at(sheet, name, rank):
+    """What lane_to tells of a sheet."""
     k = lane_spot(sheet, name)
     tempo, takes, lanes = sheet
     if not is_whole_within(rank, 0, len(lanes) - 1):
@@ -59,9 +99,8 @@ def lane_to(sheet, name, rank):
     return (tempo, takes, at_rank(lanes, k, rank))
 
 
-def new_take(sheet, take):
-    """A take put behind the others."""
-    refuse_no_sheet(sheet)
+def with_new_take(sheet, take):
+    """What new_take tells of a sheet."""
     tempo, takes, lanes = sheet
     if not is_take(take):
         raise NoTake("it is no take")
@@ -72,9 +111,8 @@ def new_take(sheet, take):
     return (tempo, takes + (take,), lanes)
 
 
-def drop_take(sheet, name):
-    """A take taken out of which no piece is."""
-    refuse_no_sheet(sheet)
+def without_take(sheet, name):
+    """What drop_take tells of a sheet."""
     tempo, takes, lanes = sheet
     kept = tuple([take for take in takes if take[0] != name])
     if len(kept) == len(takes):

@@ -71,6 +71,11 @@ def shape_between(shape, begin, end):
     return plain([(minus(place, begin), level) for place, level in corners])
 
 
+def moved_by(piece, by):
+    """The piece moved by so many steps."""
+    return piece[:2] + (piece[2] + by,) + piece[3:]
+
+
 def trimmed(clock, piece, begin, end):
     """The piece from one step up to another one instead, with the content and the levels that it would have there."""
     # Ahead of step 0 there are no moments; what would begin there is refused, whatever its start.

@@ -1,4 +1,7 @@
-"""Shaping: pieces stretched, made free or bound, faded, made louder."""
+"""Shaping: pieces stretched, made free or bound, faded, made louder.
+
+Each deed is there twice: by its own name, for whatever is handed in as a sheet, and below for what surely is one.
+"""
 
 from beatlanes.errors import NoFar, NoLevel, NoSide, NoStep
 from beatlanes.fracs import NOUGHT, is_above_nought, is_from_nought, is_less, is_whole, minus, over, times
@@ -12,6 +15,29 @@ SIDES = ("in", "out")
 def stretch_to(sheet, n, many):
     """A piece that has so many steps, from where it begins on, with the same content at both ends."""
     refuse_no_sheet(sheet)
+    return stretched(sheet, n, many)
+
+
+def turn_over(sheet, n):
+    """A free piece made bound, or a bound one free, with the same content at both ends."""
+    refuse_no_sheet(sheet)
+    return turned(sheet, n)
+
+
+def fade(sheet, n, side, far):
+    """A piece that begins or ends at level 0, straight to or from the level that it has so far from there."""
+    refuse_no_sheet(sheet)
+    return faded(sheet, n, side, far)
+
+
+def louder(sheet, n, by):
+    """A piece with all its levels taken so many times."""
+    refuse_no_sheet(sheet)
+    return made_louder(sheet, n, by)
+
+
+def stretched(sheet, n, many):
+    """What stretch_to tells of a sheet."""
     spot = piece_spot(sheet, n)
     if not is_whole(many) or many < 1:
         raise NoStep("a piece has a whole number of steps, from 1 on")
@@ -22,9 +48,8 @@ def stretch_to(sheet, n, many):
     return fitting(with_instead(sheet, spot, (_with_run_of(Clock(sheet[0]), piece, changed),)))
 
 
-def turn_over(sheet, n):
-    """A free piece made bound, or a bound one free, with the same content at both ends."""
-    refuse_no_sheet(sheet)
+def turned(sheet, n):
+    """What turn_over tells of a sheet."""
     spot = piece_spot(sheet, n)
     piece = piece_at(sheet, spot)
     way = "bound" if piece[4] == "free" else "free"
@@ -32,9 +57,8 @@ def turn_over(sheet, n):
     return fitting(with_instead(sheet, spot, (_with_run_of(Clock(sheet[0]), piece, changed),)))
 
 
-def fade(sheet, n, side, far):
-    """A piece that begins or ends at level 0, straight to or from the level that it has so far from there."""
-    refuse_no_sheet(sheet)
+def faded(sheet, n, side, far):
+    """What fade tells of a sheet."""
     spot = piece_spot(sheet, n)
     piece = piece_at(sheet, spot)
     if side not in SIDES:
@@ -45,9 +69,8 @@ def fade(sheet, n, side, far):
     return fitting(with_instead(sheet, spot, (piece[:7] + (shape,),)))
 
 
-def louder(sheet, n, by):
-    """A piece with all its levels taken so many times."""
-    refuse_no_sheet(sheet)
+def made_louder(sheet, n, by):
+    """What louder tells of a sheet."""
     spot = piece_spot(sheet, n)
     if not is_from_nought(by):
         raise NoLevel("levels are taken a fraction from 0 on times")

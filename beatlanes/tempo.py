@@ -33,13 +33,7 @@ def length_of(tempo, step):
     _refuse_no_tempo(tempo)
     if not is_whole(step) or step < 0:
         raise NoStep("a step is a whole number from 0 on")
-    stretches, rest = tempo
-    ahead = 0
-    for stretch in stretches:
-        if step < ahead + stretch[0]:
-            return _length_within(stretch, step - ahead)
-        ahead += stretch[0]
-    return rest
+    return length_at(tempo, step)
 
 
 def moment_of(tempo, place):
@@ -86,6 +80,17 @@ class Clock:
                 return plus((step, 1), _place_within(stretch, minus(moment, begin)))
         behind = minus(moment, self.moment)
         return plus((self.step, 1), over(behind, self.rest))
+
+
+def length_at(tempo, step):
+    """What length_of tells of a tempo and a step."""
+    stretches, rest = tempo
+    ahead = 0
+    for stretch in stretches:
+        if step < ahead + stretch[0]:
+            return _length_within(stretch, step - ahead)
+        ahead += stretch[0]
+    return rest
 
 
 def refuse_no_place(thing):

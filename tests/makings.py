@@ -113,3 +113,33 @@ def some_sheet(seed, most_lanes=3, most_pieces=4):
 
 def some_sheets(many, first=0):
     return [some_sheet(seed) for seed in range(first, first + many)]
+
+
+def some_name(r, names):
+    """Mostly one of the names, sometimes another one."""
+    return r.choice(list(names)) if names and r.random() < 0.9 else r.choice(["a", "b", "c", "d", "xy", "abcdefgh"])
+
+
+def some_deed(r, made):
+    """A deed that mostly can be done on the sheet."""
+    names = [row[0] for row in made[2]]
+    takes = [take[0] for take in made[1]]
+    numbers = [one[0] for row in made[2] for one in row[3]]
+    n = r.choice(numbers) if numbers and r.random() < 0.95 else r.choice([1, 100, 300])
+    name, take = some_name(r, names), some_name(r, takes)
+    step, many = r.randint(0, 14), r.randint(1, 6)
+    word = r.choice("""take untake lane unlane gain hush order lay lay lay lay lift move shift raise trim cut cut cut glue
+        glue stretch turn fade louder pace rest out gap""".split())
+    at = r.choice([one[2] for row in made[2] for one in row[3] if one[0] == n] or [0])
+    return (word,) + {
+        "take": (some_name(r, []), tuple(r.randint(-9, 9) for _ in range(r.randint(1, 4)))), "untake": (take,),
+        "lane": (some_name(r, []),), "unlane": (name,), "gain": (name, some_fraction(r)), "hush": (name, r.randint(0, 1)),
+        "order": (name, r.randint(0, max(len(names) - 1, 0))), "lift": (n,), "move": (n, r.randint(-3, 5)),
+        "lay": (name, take, step, many, r.choice(["free", "bound"]), some_fraction(r, 2), some_above_nought(r, 2),
+                some_shape(r, many, 4)),
+        "shift": (n, name), "raise": (n, r.randint(0, 2)), "trim": (n, at + r.randint(-1, 2), at + r.randint(1, 6)),
+        "cut": (n, at + r.randint(1, 4)), "glue": (n, r.choice(numbers or [1])), "stretch": (n, many), "turn": (n,),
+        "fade": (n, r.choice(["in", "out"]), some_above_nought(r, 2)), "louder": (n, some_fraction(r, 1)),
+        "pace": (step, step + many, some_above_nought(r), some_above_nought(r)), "rest": (step, some_above_nought(r)),
+        "out": (r.choice([None, name]), step, step + many), "gap": (r.choice([None, name]), step, many),
+    }[word]

@@ -18,6 +18,15 @@ LISTED = {
     "lanes": {"new_lane": 2, "drop_lane": 2, "gain_to": 3, "hush": 3, "lane_to": 3, "new_take": 2, "drop_take": 2},
     "paces": {"pace": 5, "rest_from": 3},
     "laying": {"lay": 3, "lift": 2, "move": 3, "shift": 3, "raise_to": 3, "trim": 4},
+    "ripples": {"cut_out": 5, "open_gap": 5},
+    "deeds": {"done": 3},
+    "changes": {"changes": 2},
+}
+CLASSES = {
+    "boards": {"Board": {
+        "do": 1, "undo": 1, "undo_all": 1, "again": 1, "go": 1, "between": 2, "leans": 1, "sheet": 0, "deeds": 0, "keep": 1,
+        "drop": 1, "versions": 0,
+    }},
 }
 
 
@@ -37,6 +46,20 @@ class Interface(unittest.TestCase):
                 inspect.signature(getattr(module, name)).bind(*range(many))
                 with self.assertRaises(TypeError):
                     inspect.signature(getattr(module, name)).bind(*range(many + 1))
+
+    def test_each_class_is_defined_in_its_file_and_each_method_in_it(self):
+        for file, classes in CLASSES.items():
+            module = importlib.import_module("beatlanes." + file)
+            for name, methods in classes.items():
+                found = getattr(module, name)
+                self.assertTrue(inspect.isclass(found))
+                self.assertEqual((found.__module__, found.__name__), ("beatlanes." + file, name))
+                made = found()
+                for method, many in methods.items():
+                    self.assertTrue(inspect.isfunction(vars(found)[method]))
+                    inspect.signature(getattr(made, method)).bind(*range(many))
+                    with self.assertRaises(TypeError):
+                        inspect.signature(getattr(made, method)).bind(*range(many + 1))
 
 
 if __name__ == "__main__":
