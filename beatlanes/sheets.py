@@ -27,10 +27,14 @@ def is_take(thing):
     """Whether it is a take (name, tones); it may be anything."""
     if not is_tuple_of(thing, 2):
         return False
-    name, tones = thing
-    if not is_name(name) or not isinstance(tones, tuple) or not 1 <= len(tones) <= MOST_TONES:
+    return is_name(thing[0]) and is_tones(thing[1])
+
+
+def is_tones(thing):
+    """Whether it is what a take has as its tones."""
+    if not isinstance(thing, tuple) or not 1 <= len(thing) <= MOST_TONES:
         return False
-    return all([is_whole_within(tone, -MOST_TONE, MOST_TONE) for tone in tones])
+    return all([is_whole_within(tone, -MOST_TONE, MOST_TONE) for tone in thing])
 
 
 def is_shape(thing):
@@ -63,6 +67,16 @@ def is_piece(thing):
     if not _is_span(at, many) or not is_from_nought(start) or not is_above_nought(speed):
         return False
     return is_shape(shape) and shape[0][0] == NOUGHT and shape[-1][0] == (many, 1)
+
+
+def is_lane_frame(thing):
+    """Whether it is a lane but for what its tuple of pieces holds."""
+    if not is_tuple_of(thing, 4):
+        return False
+    name, gain, silent, pieces = thing
+    if not is_name(name) or not is_from_nought(gain):
+        return False
+    return is_whole_within(silent, 0, 1) and isinstance(pieces, tuple)
 
 
 def fault_of(thing):
@@ -101,16 +115,6 @@ def _is_frame(thing):
     return len(takes) <= MOST_TAKES and len(lanes) <= MOST_LANES
 
 
-def _is_lane_frame(thing):
-    """Whether it is a lane but for what its tuple of pieces holds."""
-    if not is_tuple_of(thing, 4):
-        return False
-    name, gain, silent, pieces = thing
-    if not is_name(name) or not is_from_nought(gain):
-        return False
-    return is_whole_within(silent, 0, 1) and isinstance(pieces, tuple)
-
-
 def _fault_of_takes(takes):
     for k, take in enumerate(takes):
         if not is_take(take):
@@ -121,7 +125,7 @@ def _fault_of_takes(takes):
 
 def _fault_of_lanes(lanes):
     for k, lane in enumerate(lanes):
-        if not _is_lane_frame(lane):
+        if not is_lane_frame(lane):
             return ("lane", k)
     again = _first_again([lane[0] for lane in lanes])
     return None if again is None else ("same", again)

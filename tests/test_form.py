@@ -21,7 +21,7 @@ ZeroDivisionError ArithmeticError OverflowError RuntimeError NotImplementedError
 NotImplemented""".split())
 METHODS = set("""append clear copy count endswith extend find get index insert isalnum isalpha isdigit islower isspace
 isupper items join keys ljust lower lstrip partition pop remove replace reverse rfind rjust rpartition rsplit rstrip
-setdefault split splitlines startswith strip update upper values zfill bit_length add discard sort""".split())
+setdefault split splitlines startswith strip update upper values zfill bit_length add discard sort isascii""".split())
 BARRED_WORDS = re.compile(r"\b(register|mro|elements|open|input|law|eval|exec|compile|globals|locals|vars|type)\b")
 BARRED_NODES = (ast.Global, ast.AsyncFunctionDef, ast.Await, ast.Div, ast.AnnAssign)
 

@@ -21,12 +21,16 @@ LISTED = {
     "ripples": {"cut_out": 5, "open_gap": 5},
     "deeds": {"done": 3},
     "changes": {"changes": 2},
+    "texts": {"show_sheet": 1, "read_sheet": 1},
+    "deedtexts": {"show_deed": 1, "read_deed": 1},
+    "boardtexts": {"show_board": 1, "read_board": 1},
 }
 CLASSES = {
     "boards": {"Board": {
         "do": 1, "undo": 1, "undo_all": 1, "again": 1, "go": 1, "between": 2, "leans": 1, "sheet": 0, "deeds": 0, "keep": 1,
         "drop": 1, "versions": 0,
     }},
+    "desk": {"Desk": {"say": 1}},
 }
 
 
