@@ -87,6 +87,9 @@ def _piece_changes(was, now):
     new_ranks = _ranks_among(now, was)
     rows = []
     for n in _all_of(list(was), list(now)):
+        # Most pieces stay as they are, and need no look at each of their fields.
+        if was.get(n) == now.get(n) and ranks.get(n) == new_ranks.get(n):
+            continue
         if n in was and n in now:
             lane, piece = was[n]
             new_lane, new = now[n]

@@ -10,12 +10,12 @@ NOUGHT = (0, 1)
 def is_whole(thing):
     """Whether it is a whole number."""
     # Python counts truths among the ints; here they are none.
-    return isinstance(thing, int) and not isinstance(thing, bool)
+    return isinstance(thing, int) and thing is not True and thing is not False
 
 
 def is_whole_within(thing, least, most):
     """Whether it is a whole number from least to most."""
-    return is_whole(thing) and least <= thing <= most
+    return isinstance(thing, int) and thing is not True and thing is not False and least <= thing <= most
 
 
 def is_tuple_of(thing, many):
@@ -25,12 +25,15 @@ def is_tuple_of(thing, many):
 
 def is_fraction(thing):
     """Whether it is a fraction; it may be anything."""
-    if not is_tuple_of(thing, 2):
+    # Of each sheet that is asked about each fraction goes through here, so no other function is called.
+    if not isinstance(thing, tuple) or len(thing) != 2:
         return False
     top, bottom = thing
-    if not is_whole(top) or not is_whole(bottom):
+    if not isinstance(top, int) or not isinstance(bottom, int):
         return False
-    return bottom >= 1 and gcd(top, bottom) == 1
+    if top is True or top is False or bottom is True:
+        return False
+    return bottom == 1 or bottom > 1 and gcd(top, bottom) == 1
 
 
 def is_from_nought(thing):
@@ -49,33 +52,47 @@ def fraction(top, bottom):
         raise NoFraction("top and bottom of a fraction are whole numbers")
     if bottom == 0:
         raise NoFraction("the bottom of a fraction is not 0")
-    return _in_lowest_terms(top, bottom)
+    return in_lowest_terms(top, bottom)
+
+
+def in_lowest_terms(top, bottom):
+    """The fraction of a top and a bottom of either sign, but not 0."""
+    shared = gcd(top, bottom)
+    # gcd has no sign, so that of the bottom is taken along: the bottom told is above 0.
+    if bottom < 0:
+        shared = -shared
+    return (top // shared, bottom // shared)
 
 
 def plus(one, other):
     """The sum of two fractions."""
-    top, bottom = one
-    other_top, other_bottom = other
-    return _in_lowest_terms(top * other_bottom + other_top * bottom, bottom * other_bottom)
+    top = one[0] * other[1] + other[0] * one[1]
+    bottom = one[1] * other[1]
+    shared = gcd(top, bottom)
+    return (top // shared, bottom // shared)
 
 
 def minus(one, other):
     """The first fraction less the second."""
-    top, bottom = one
-    other_top, other_bottom = other
-    return _in_lowest_terms(top * other_bottom - other_top * bottom, bottom * other_bottom)
+    top = one[0] * other[1] - other[0] * one[1]
+    bottom = one[1] * other[1]
+    shared = gcd(top, bottom)
+    return (top // shared, bottom // shared)
 
 
 def times(one, other):
     """The product of two fractions."""
-    return _in_lowest_terms(one[0] * other[0], one[1] * other[1])
+    top = one[0] * other[0]
+    bottom = one[1] * other[1]
+    shared = gcd(top, bottom)
+    return (top // shared, bottom // shared)
 
 
 def over(one, other):
     """The first fraction divided by the second, which is not 0."""
     if other == NOUGHT:
         raise NoFraction("nothing is divided by 0")
-    return _in_lowest_terms(one[0] * other[1], one[1] * other[0])
+    return in_lowest_terms(one[0] * other[1], one[1] * other[0])
 
 
 def is_less(one, other):
@@ -108,10 +125,21 @@ def greatest(things):
 
 def rising(things):
     """Those fractions from the least to the greatest, each once."""
+    # Most have a floor of their own; whole numbers are put in order quickly.
+    by_floor = {}
+    for thing in things:
+        by_floor.setdefault(floor_of(thing), []).append(thing)
+    found = []
+    for floor in sorted(by_floor):
+        found += _in_order(by_floor[floor])
+    return found
+
+
+def _in_order(things):
     if len(things) < 2:
-        return list(things)
+        return things
     half = len(things) // 2
-    return _merged(rising(things[:half]), rising(things[half:]))
+    return _merged(_in_order(things[:half]), _in_order(things[half:]))
 
 
 def _merged(one, other):
@@ -126,11 +154,3 @@ def _merged(one, other):
             j += 1
         merged.append(thing)
     return merged + other[j:]
-
-
-def _in_lowest_terms(top, bottom):
-    shared = gcd(top, bottom)
-    # gcd has no sign, so that of the bottom is taken along: the bottom told is above 0.
-    if bottom < 0:
-        shared = -shared
-    return (top // shared, bottom // shared)

@@ -45,17 +45,36 @@ def lines_between(clock, tones, piece, begin, end):
     They are told as (from, to, tone, height, rise): at each place of the span the level is height and so many
     times the place as rise tells.
     """
+    spans = _straight_spans(piece, begin, end)
     lines = []
-    for before, behind in zip(piece[7], piece[7][1:]):
-        corner = plus((piece[2], 1), before[0])
-        first = greatest([begin, corner])
-        last = least([end, plus((piece[2], 1), behind[0])])
-        if is_less(first, last):
-            rise = slope_of(before, behind)
-            height = minus(before[1], times(rise, corner))
-            for here, there, number in _grains_between(clock, len(tones), piece, first, last):
-                lines.append((here, there, tones[number], height, rise))
+    k = 0
+    for here, there, number in _grains_between(clock, len(tones), piece, begin, end):
+        while here != there:
+            last, height, rise = spans[k]
+            if is_less(there, last):
+                last = there
+            else:
+                k += 1
+            lines.append((here, last, tones[number], height, rise))
+            here = last
     return lines
+
+
+def _straight_spans(piece, begin, end):
+    """The spans, side by side from one place to another one, over which the level is straight: (to, height, rise)."""
+    at = (piece[2], 1)
+    spans = []
+    before = piece[7][0]
+    for behind in piece[7][1:]:
+        last = plus(at, behind[0])
+        if is_less(begin, last):
+            rise = slope_of(before, behind)
+            height = minus(before[1], times(rise, plus(at, before[0])))
+            spans.append((least([last, end]), height, rise))
+            if not is_less(last, end):
+                break
+        before = behind
+    return spans
 
 
 def _grains_between(clock, many, piece, begin, end):
@@ -78,6 +97,9 @@ def _grains_between(clock, many, piece, begin, end):
 def _loudest_between(clock, tones, piece, begin, end):
     found = NOUGHT
     for here, there, tone, height, rise in lines_between(clock, tones, piece, begin, end):
-        level = greatest([plus(height, times(rise, place)) for place in (here, there)])
+        level = height
+        if rise != NOUGHT:
+            # It is greatest where the line is highest, at one of its ends.
+            level = plus(height, times(rise, there if rise[0] > 0 else here))
         found = greatest([found, times((abs(tone), 1), level)])
     return found

@@ -24,7 +24,7 @@ def level_at(sheet, n, place):
 def sound_at(sheet, n, place):
     """The sound of a piece at a place, 0 outside of what the piece covers."""
     piece = _piece_asked(sheet, n, place)
-    return _sound_of(Clock(sheet[0]), dict(sheet[1]), piece, place)
+    return _sound_of(Clock(sheet[0]), dict(sheet[1]), piece, place) if covers(piece, place) else NOUGHT
 
 
 def lane_at(sheet, lane, place):
@@ -75,7 +75,7 @@ def runs_among(pieces):
     borders = sorted({step for piece in pieces for step in (piece[2], end_of(piece))})
     runs = []
     for begin, end in zip(borders, borders[1:]):
-        piece = _highest(pieces, (begin, 1))
+        piece = _highest(pieces, begin)
         if piece is None:
             continue
         # A piece covers all between two of its steps, so where it was the last one heard there is no gap.
@@ -92,10 +92,10 @@ def _piece_asked(sheet, n, place):
     return piece_at(sheet, spot)
 
 
-def _highest(pieces, place):
-    """The highest piece that covers the place, None where none does."""
+def _highest(pieces, step):
+    """The highest piece that covers the step, None where none does."""
     for piece in reversed(pieces):
-        if covers(piece, place):
+        if piece[2] <= step < piece[2] + piece[3]:
             return piece
     return None
 
@@ -104,21 +104,23 @@ def _sum_at(clock, sheet, place):
     total = NOUGHT
     takes = dict(sheet[1])
     for lane in sheet[2]:
-        total = plus(total, _sound_of_lane(clock, takes, lane, place))
+        sound = _sound_of_lane(clock, takes, lane, place)
+        if sound != NOUGHT:
+            total = plus(total, sound)
     return total
 
 
 def _sound_of_lane(clock, takes, lane, place):
     _, gain, silent, pieces = lane
-    piece = _highest(pieces, place)
-    if silent == 1 or piece is None:
+    # Pieces begin and end at steps, so all of a step is covered by the same ones.
+    piece = _highest(pieces, floor_of(place)) if silent == 0 else None
+    if piece is None:
         return NOUGHT
     return times(gain, _sound_of(clock, takes, piece, place))
 
 
 def _sound_of(clock, takes, piece, place):
-    if not covers(piece, place):
-        return NOUGHT
+    """The sound of a piece at a place that it covers."""
     tones = takes[piece[1]]
     number = floor_of(content_of(clock, piece, place))
     if number >= len(tones):

@@ -4,7 +4,6 @@ A place of a shape is counted from where its piece begins; all other places are 
 """
 
 from beatlanes.fracs import floor_of, is_less, minus, over, plus, times
-from beatlanes.sheets import lies_between
 
 
 def end_of(piece):
@@ -14,7 +13,7 @@ def end_of(piece):
 
 def covers(piece, place):
     """Whether the piece covers the place."""
-    return piece[2] <= floor_of(place) < end_of(piece)
+    return piece[2] <= floor_of(place) < piece[2] + piece[3]
 
 
 def content_of(clock, piece, place):
@@ -42,12 +41,16 @@ def level_of(piece, place):
 
 def level_in(shape, place):
     """The level at a place of a shape; further out, that of its first or last corner."""
-    if not is_less(shape[0][0], place):
-        return shape[0][1]
-    for before, behind in zip(shape, shape[1:]):
+    before = shape[0]
+    if not is_less(before[0], place):
+        return before[1]
+    for behind in shape[1:]:
         if not is_less(behind[0], place):
+            if before[1] == behind[1]:
+                return before[1]
             return plus(before[1], times(slope_of(before, behind), minus(place, before[0])))
-    return shape[-1][1]
+        before = behind
+    return before[1]
 
 
 def slope_of(before, behind):
@@ -59,9 +62,17 @@ def plain(corners):
     """The shape of these corners, without inner ones on the straight line between those beside them."""
     kept = [corners[0]]
     for k in range(1, len(corners) - 1):
-        if not lies_between(kept[-1], corners[k], corners[k + 1]):
+        if not _lies_between(kept[-1], corners[k], corners[k + 1]):
             kept.append(corners[k])
     return tuple(kept + [corners[-1]])
+
+
+def _lies_between(before, corner, behind):
+    """Whether a corner lies on the straight line between two others; all their places are unlike."""
+    # Both slopes are multiplied by both widths, which needs no division.
+    rise = times(minus(corner[1], before[1]), minus(behind[0], before[0]))
+    whole_rise = times(minus(behind[1], before[1]), minus(corner[0], before[0]))
+    return rise == whole_rise
 
 
 def shape_between(shape, begin, end):

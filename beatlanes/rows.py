@@ -72,7 +72,7 @@ def _rows_of(sheet, first, last):
             height = plus(height, bends[here][0])
             rise = plus(rise, bends[here][1])
         later = clock.moment_at(there)
-        _put_behind(rows, (moment, later, plus(height, times(rise, here)), plus(height, times(rise, there))))
+        _put_behind(rows, (moment, later, _height_on(height, rise, here), _height_on(height, rise, there)))
         moment = later
     return rows
 
@@ -86,6 +86,8 @@ def _lines_heard(clock, sheet, begin, end):
         for run_begin, run_end, piece in runs:
             first = greatest([begin, (run_begin, 1)])
             last = least([end, (run_end, 1)])
+            if not is_less(first, last):
+                continue
             for here, there, tone, height, rise in lines_between(clock, takes[piece[1]], piece, first, last):
                 loud = times(gain, (tone, 1))
                 lines.append((here, there, times(loud, height), times(loud, rise)))
@@ -96,11 +98,16 @@ def _bends_of(lines):
     """By how much height and rise of the sum of all lines change, and at which places."""
     bends = {}
     for here, there, height, rise in lines:
-        for place, sign in ((here, 1), (there, -1)):
-            was = bends.get(place, (NOUGHT, NOUGHT))
-            change = (times((sign, 1), height), times((sign, 1), rise))
-            bends[place] = (plus(was[0], change[0]), plus(was[1], change[1]))
+        was = bends.get(here, (NOUGHT, NOUGHT))
+        bends[here] = (plus(was[0], height), plus(was[1], rise))
+        was = bends.get(there, (NOUGHT, NOUGHT))
+        bends[there] = (minus(was[0], height), minus(was[1], rise))
     return bends
+
+
+def _height_on(height, rise, place):
+    """What a line tells at a place."""
+    return height if rise == NOUGHT else plus(height, times(rise, place))
 
 
 def _put_behind(rows, row):
@@ -114,6 +121,8 @@ def _put_behind(rows, row):
 def _slope_of(row):
     """By how much what is heard goes on in each moment of a row."""
     begin, end, first, last = row
+    if first == last:
+        return NOUGHT
     return over(minus(last, first), minus(end, begin))
 
 

@@ -1,7 +1,6 @@
 """Takes, shapes, pieces, lanes and sheets: whether things are such, and what is wrong with a sheet."""
 
-from beatlanes.fracs import NOUGHT, is_above_nought, is_from_nought, is_less
-from beatlanes.fracs import is_tuple_of, is_whole, is_whole_within, minus, times
+from beatlanes.fracs import NOUGHT, is_above_nought, is_fraction, is_from_nought, is_tuple_of, is_whole_within
 from beatlanes.tempo import is_tempo
 
 MOST_SIGNS = 8
@@ -20,7 +19,7 @@ def is_name(thing):
     """Whether it is a name."""
     if not isinstance(thing, str) or not 1 <= len(thing) <= MOST_SIGNS:
         return False
-    return all(["a" <= sign <= "z" for sign in thing])
+    return thing.isascii() and thing.isalpha() and thing.islower()
 
 
 def is_take(thing):
@@ -34,27 +33,50 @@ def is_tones(thing):
     """Whether it is what a take has as its tones."""
     if not isinstance(thing, tuple) or not 1 <= len(thing) <= MOST_TONES:
         return False
-    return all([is_whole_within(tone, -MOST_TONE, MOST_TONE) for tone in thing])
+    # As is_whole_within tells, but without a call for each of so many tones.
+    least = -MOST_TONE
+    most = MOST_TONE
+    for tone in thing:
+        if not isinstance(tone, int) or tone is True or tone is False or tone < least or tone > most:
+            return False
+    return True
 
 
 def is_shape(thing):
     """Whether it is a shape, a tuple of corners (place, level); it may be anything."""
     if not isinstance(thing, tuple) or not 2 <= len(thing) <= MOST_CORNERS:
         return False
-    if not all([_is_corner(corner) for corner in thing]):
-        return False
-    if not all([is_less(thing[k - 1][0], thing[k][0]) for k in range(1, len(thing))]):
-        return False
-    inner = range(1, len(thing) - 1)
-    return not any([lies_between(thing[k - 1], thing[k], thing[k + 1]) for k in inner])
+    for corner in thing:
+        if not isinstance(corner, tuple) or len(corner) != 2:
+            return False
+        if not is_fraction(corner[0]) or not is_fraction(corner[1]):
+            return False
+    return thing[0][0][0] >= 0 and _is_plain_line(thing)
 
 
-def lies_between(before, corner, behind):
-    """Whether a corner lies on the straight line between two others; all their places are unlike."""
-    # Both slopes are multiplied by both widths, which needs no division.
-    rise = times(minus(corner[1], before[1]), minus(behind[0], before[0]))
-    whole_rise = times(minus(behind[1], before[1]), minus(corner[0], before[0]))
-    return rise == whole_rise
+def _is_plain_line(corners):
+    """Whether corners, of fractions, have levels from 0 on, rising places, and none on the line between two others."""
+    (top, bottom), (high, low) = corners[0]
+    if high < 0:
+        return False
+    up = 0
+    across = 0
+    for (next_top, next_bottom), (next_high, next_low) in corners[1:]:
+        was_up = up
+        was_across = across
+        # The slope to the next corner is up by across; both are multiplied by all bottoms, which needs no division.
+        across = (next_top * bottom - top * next_bottom) * low * next_low
+        up = (next_high * low - high * next_low) * bottom * next_bottom
+        if across <= 0 or next_high < 0:
+            return False
+        # Ahead of the first corner nothing goes across.
+        if was_across > 0 and up * was_across == was_up * across:
+            return False
+        top = next_top
+        bottom = next_bottom
+        high = next_high
+        low = next_low
+    return True
 
 
 def is_piece(thing):
@@ -64,7 +86,9 @@ def is_piece(thing):
     n, take, at, many, way, start, speed, shape = thing
     if not is_whole_within(n, 1, MOST_NUMBER) or not is_name(take) or way not in WAYS:
         return False
-    if not _is_span(at, many) or not is_from_nought(start) or not is_above_nought(speed):
+    if not is_whole_within(at, 0, MOST_END) or not is_whole_within(many, 1, MOST_END - at):
+        return False
+    if not is_from_nought(start) or not is_above_nought(speed):
         return False
     return is_shape(shape) and shape[0][0] == NOUGHT and shape[-1][0] == (many, 1)
 
@@ -92,17 +116,6 @@ def fault_of(thing):
     if fault is None:
         fault = _fault_of_pieces(takes, lanes)
     return fault
-
-
-def _is_corner(thing):
-    return is_tuple_of(thing, 2) and is_from_nought(thing[0]) and is_from_nought(thing[1])
-
-
-def _is_span(at, many):
-    """Whether a piece may begin at this step and cover so many."""
-    if not is_whole(at) or not is_whole(many):
-        return False
-    return at >= 0 and many >= 1 and at + many <= MOST_END
 
 
 def _is_frame(thing):
@@ -141,7 +154,7 @@ def _fault_of_pieces(takes, lanes):
     again = _first_again([row[2][0] for row in laid])
     if again is not None:
         return ("twice", laid[again][0], laid[again][1])
-    names = [take[0] for take in takes]
+    names = {take[0] for take in takes}
     for k, j, piece in laid:
         if piece[1] not in names:
             return ("untaken", k, j)

@@ -1,7 +1,7 @@
 """Tempos: how long each step lasts, and the way from places to moments and back."""
 
 from beatlanes.errors import NoMoment, NoPlace, NoStep, NoTempo
-from beatlanes.fracs import NOUGHT, floor_of, is_above_nought, is_from_nought, is_less
+from beatlanes.fracs import NOUGHT, floor_of, in_lowest_terms, is_above_nought, is_from_nought, is_less
 from beatlanes.fracs import is_tuple_of, is_whole, is_whole_within, minus, over, plus, times
 
 MOST_STRETCHES = 24
@@ -55,31 +55,44 @@ class Clock:
 
     def __init__(self, tempo):
         stretches, self.rest = tempo
-        # Of each stretch: the step and the moment at which it begins, the moment at which it ends, itself.
+        # Of each stretch: its first step, the first one behind it, when it begins and ends, its line.
         self.parts = []
         self.step = 0
         self.moment = NOUGHT
+        # The moments of places that were told already: where pieces begin, they are asked for again and again.
+        self.known = {}
         for stretch in stretches:
-            end = plus(self.moment, _length_of_steps(stretch, stretch[0]))
-            self.parts.append((self.step, self.moment, end, stretch))
-            self.step += stretch[0]
+            behind = self.step + stretch[0]
+            line = _line_of(stretch)
+            end = plus(self.moment, _length_of_steps(line, stretch[0]))
+            self.parts.append((self.step, behind, self.moment, end, line))
+            self.step = behind
             self.moment = end
 
     def moment_at(self, place):
         """The moment of a place."""
-        for step, begin, _, stretch in self.parts:
-            if is_less(place, (step + stretch[0], 1)):
-                return plus(begin, _moment_within(stretch, minus(place, (step, 1))))
-        behind = minus(place, (self.step, 1))
-        return plus(self.moment, times(behind, self.rest))
+        if place not in self.known:
+            self.known[place] = self._found_at(place)
+        return self.known[place]
 
     def place_at(self, moment):
         """The place of a moment."""
-        for step, begin, end, stretch in self.parts:
+        place = self._place_of(moment)
+        self.known[place] = moment
+        return place
+
+    def _found_at(self, place):
+        step = floor_of(place)
+        for first, behind, begin, _, line in self.parts:
+            if step < behind:
+                return plus(begin, _moment_within(line, minus(place, (first, 1))))
+        return plus(self.moment, times(minus(place, (self.step, 1)), self.rest))
+
+    def _place_of(self, moment):
+        for first, behind, begin, end, line in self.parts:
             if is_less(moment, end):
-                return plus((step, 1), _place_within(stretch, minus(moment, begin)))
-        behind = minus(moment, self.moment)
-        return plus((self.step, 1), over(behind, self.rest))
+                return plus((first, 1), _place_within(line, behind - first, minus(moment, begin)))
+        return plus((self.step, 1), over(minus(moment, self.moment), self.rest))
 
 
 def length_at(tempo, step):
@@ -88,7 +101,7 @@ def length_at(tempo, step):
     ahead = 0
     for stretch in stretches:
         if step < ahead + stretch[0]:
-            return _length_within(stretch, step - ahead)
+            return _length_within(_line_of(stretch), step - ahead)
         ahead += stretch[0]
     return rest
 
@@ -133,44 +146,57 @@ def _rise_of(stretch):
     return over(minus(last, first), (many, 1))
 
 
-def _length_within(stretch, step):
-    """How long the step lasts that has this number within the stretch."""
-    # The line of lengths is straight, so a step lasts as long as it tells at its middle.
-    middle = times(_rise_of(stretch), (2 * step + 1, 2))
-    return plus(stretch[1], middle)
+def _line_of(stretch):
+    """The line of lengths of a stretch in whole numbers (even, rise, bottom), by which fewer fractions are reckoned.
 
-
-def _length_of_steps(stretch, many):
-    """How long the first so many steps of the stretch last together."""
-    # The first so many odd numbers have their count's square as their sum.
-    by_rise = times(_rise_of(stretch), (many * many, 2))
-    return plus(times(stretch[1], (many, 1)), by_rise)
-
-
-def _moment_within(stretch, place):
-    step = floor_of(place)
-    part = minus(place, (step, 1))
-    return plus(_length_of_steps(stretch, step), times(part, _length_within(stretch, step)))
-
-
-def _place_within(stretch, moment):
-    step = _step_at(stretch, moment)
-    part = minus(moment, _length_of_steps(stretch, step))
-    return plus((step, 1), over(part, _length_within(stretch, step)))
-
-
-def _step_at(stretch, moment):
-    """The last step of the stretch that begins no later than the moment, counted from its begin."""
+    Its step i lasts even + (2 * i + 1) * rise, over the bottom. The first so many odd numbers have their count's
+    square as their sum, so the first k steps last k * even + k * k * rise together, over the bottom.
+    """
     many, (top, bottom), (last_top, last_bottom) = stretch
-    # All is multiplied by what makes each step's begin whole, so the search needs no fractions.
-    by_step = 2 * many * top * last_bottom
-    by_square = last_top * bottom - top * last_bottom
-    limit = floor_of(times(moment, (2 * many * bottom * last_bottom, 1)))
+    even = 2 * many * top * last_bottom
+    rise = last_top * bottom - top * last_bottom
+    return (even, rise, 2 * many * bottom * last_bottom)
+
+
+def _length_within(line, step):
+    """How long the step lasts that has this number within the stretch."""
+    even, rise, bottom = line
+    return in_lowest_terms(even + (2 * step + 1) * rise, bottom)
+
+
+def _length_of_steps(line, many):
+    """How long the first so many steps of the stretch last together."""
+    even, rise, bottom = line
+    return in_lowest_terms(many * (even + many * rise), bottom)
+
+
+def _moment_within(line, place):
+    """The moment of a place, both counted from where the stretch begins."""
+    even, rise, bottom = line
+    step, part = divmod(place[0], place[1])
+    ahead = step * (even + step * rise)
+    within = even + (2 * step + 1) * rise
+    return in_lowest_terms(ahead * place[1] + part * within, bottom * place[1])
+
+
+def _place_within(line, many, moment):
+    """The place of a moment, both counted from where the stretch of so many steps begins."""
+    even, rise, bottom = line
+    top = moment[0] * bottom
+    step = _step_at(line, many, top // moment[1])
+    within = (even + (2 * step + 1) * rise) * moment[1]
+    part = top - step * (even + step * rise) * moment[1]
+    return in_lowest_terms(step * within + part, within)
+
+
+def _step_at(line, many, limit):
+    """The last of so many steps that begins no later than the moment that is limit over the line's bottom."""
+    even, rise, _ = line
     low = 0
     high = many - 1
     while low < high:
         middle = (low + high + 1) // 2
-        if middle * by_step + middle * middle * by_square <= limit:
+        if middle * (even + middle * rise) <= limit:
             low = middle
         else:
             high = middle - 1

@@ -108,6 +108,17 @@ class Form(unittest.TestCase):
                 if isinstance(node, ast.arg):
                     self.assertNotIn(node.arg, imported, (file, node.lineno))
 
+    def test_captured_names_are_nothing_else(self):
+        for file in files():
+            tree = ast.parse(file.read_text())
+            imported = {alias.name for node in ast.walk(tree) if isinstance(node, ast.ImportFrom) for alias in node.names}
+            for function in [node for node in ast.walk(tree) if isinstance(node, ast.FunctionDef)]:
+                inner = list(ast.walk(function))
+                captured = {node.name for node in inner if isinstance(node, (ast.MatchAs, ast.MatchStar)) and node.name}
+                others = {node.arg for node in inner if isinstance(node, ast.arg)}
+                others |= {node.id for node in inner if isinstance(node, ast.Name) and isinstance(node.ctx, ast.Store)}
+                self.assertEqual(captured & (others | imported | set(dir(builtins))), set(), (file, function.name))
+
     def test_methods(self):
         own = {node.name for _, node in nodes(ast.FunctionDef)}
         for file, node in nodes(ast.Call):
