@@ -39,7 +39,7 @@ def heard_at(sheet, place):
     """What is heard at a place: the sum of all lanes' sounds."""
     refuse_no_sheet(sheet)
     refuse_no_place(place)
-    return _sum_at(Clock(sheet[0]), sheet, place)
+    return _sum_at(Clock(sheet[0]), dict(sheet[1]), sheet[2], place)
 
 
 def heard(sheet, moment):
@@ -47,7 +47,7 @@ def heard(sheet, moment):
     refuse_no_sheet(sheet)
     refuse_no_moment(moment)
     clock = Clock(sheet[0])
-    return _sum_at(clock, sheet, clock.place_at(moment))
+    return _sum_at(clock, dict(sheet[1]), sheet[2], clock.place_at(moment))
 
 
 def played(sheet, first, step, count):
@@ -59,8 +59,9 @@ def played(sheet, first, step, count):
     if not is_whole_within(count, 1, MOST_MOMENTS):
         raise NoCount("so many moments are not played at once")
     clock = Clock(sheet[0])
+    takes = dict(sheet[1])
     moments = [plus(first, times((k, 1), step)) for k in range(count)]
-    return [_sum_at(clock, sheet, clock.place_at(moment)) for moment in moments]
+    return [_sum_at(clock, takes, sheet[2], clock.place_at(moment)) for moment in moments]
 
 
 def runs_of(sheet, lane):
@@ -100,10 +101,9 @@ def _highest(pieces, step):
     return None
 
 
-def _sum_at(clock, sheet, place):
+def _sum_at(clock, takes, lanes, place):
     total = NOUGHT
-    takes = dict(sheet[1])
-    for lane in sheet[2]:
+    for lane in lanes:
         sound = _sound_of_lane(clock, takes, lane, place)
         if sound != NOUGHT:
             total = plus(total, sound)
